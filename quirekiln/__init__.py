@@ -1,0 +1,1 @@
+"""Quirekiln: a page engine that repeats only the work that an edit requires."""
