@@ -1,12 +1,11 @@
-"""The interface of the modules, and the rules of the language that a test can measure."""
+"""The interface of the modules: names, arguments, and where they are defined."""
 
-import ast
 import importlib
 import inspect
-import pathlib
 import unittest
 
-FOLDER = pathlib.Path(__file__).resolve().parent.parent / "quirekiln"
+from quirekiln.page import Page
+from quirekiln.setting import Setting
 
 FUNCTIONS = {
     "plates": {
@@ -25,13 +24,84 @@ FUNCTIONS = {
         "area": ["rects"],
         "has": ["rects", "px", "py"],
     },
+    "selectors": {
+        "parse_selector": ["text"],
+        "write_selector": ["steps"],
+        "matches": ["page", "node", "steps"],
+        "weight": ["steps"],
+    },
+    "properties": {
+        "property_names": [],
+        "first_value": ["name"],
+        "is_inherited": ["name"],
+        "is_allowed": ["name", "value"],
+    },
+    "styles": {
+        "computed": ["page"],
+        "shown": ["page", "styles"],
+    },
+    "letters": {
+        "advance": ["char", "size"],
+        "text_width": ["string", "size"],
+        "offsets": ["string", "size"],
+    },
+    "lines": {
+        "paragraphs": ["string"],
+        "words": ["string", "start", "end"],
+        "break_lines": ["string", "size", "width"],
+        "ends_paragraph": ["string", "line"],
+        "place_line": ["string", "line", "*size", "*width", "*align='left'"],
+    },
 }
 CLASSES = {
     "errors": {
         "PageError", "NoNode", "WrongKind", "BadWord", "BadValue", "BadPlace", "TooDeep", "TooMany",
         "BadSelector",
     },
+    "page": {"Page"},
+    "setting": {"Setting"},
 }
+METHODS = {
+    ("page", "Page"): {
+        "__init__": ["width", "height"],
+        "kind": ["node"], "parent": ["node"], "children": ["node"], "name": ["node"], "text": ["node"],
+        "marks": ["node"], "own": ["node"], "scroll": ["node"], "depth": ["node"], "nodes": [], "rules": [],
+        "insert_box": ["parent", "index", "name", "*marks=()"],
+        "insert_text": ["parent", "index", "string"],
+        "remove": ["node"],
+        "move": ["node", "parent", "index"],
+        "set_text": ["node", "string"],
+        "set_marks": ["node", "marks"],
+        "set_own": ["node", "name", "value"],
+        "clear_own": ["node", "name"],
+        "set_rules": ["rules"],
+        "scroll_to": ["node", "x", "y"],
+        "resize": ["width", "height"],
+        "undo": [], "redo": [], "snapshot": [], "duplicate": [],
+    },
+    ("setting", "Setting"): {
+        "__init__": ["string", "*size=2", "*lead=0", "*width", "*align='left'"],
+        "__iter__": [],
+        "places": ["number"],
+        "ink": [],
+        "ink_between": ["low", "high"],
+        "line_of": ["index"],
+        "caret": ["index"],
+        "index_near": ["x", "y"],
+    },
+}
+
+
+def arguments_of(function):
+    """The names of the parameters, with a star if they are passed by keyword, and the defaults."""
+    found = []
+    for parameter in inspect.signature(function).parameters.values():
+        text = "*" if parameter.kind == parameter.KEYWORD_ONLY else ""
+        text += parameter.name
+        if parameter.default != parameter.empty:
+            text += f"={parameter.default!r}"
+        found.append(text)
+    return found
 
 
 class Interface(unittest.TestCase):
@@ -40,7 +110,7 @@ class Interface(unittest.TestCase):
             held = importlib.import_module("quirekiln." + module)
             for name, arguments in functions.items():
                 function = getattr(held, name)
-                self.assertEqual(list(inspect.signature(function).parameters), arguments, name)
+                self.assertEqual(arguments_of(function), arguments, name)
                 self.assertEqual(function.__module__, held.__name__, name)
 
     def test_classes(self):
@@ -51,27 +121,17 @@ class Interface(unittest.TestCase):
                 self.assertIs(inspect.isclass(made), True, name)
                 self.assertEqual(made.__module__, held.__name__, name)
 
+    def test_methods_stand_in_the_class_itself(self):
+        for (module, name), methods in METHODS.items():
+            made = vars(importlib.import_module("quirekiln." + module))[name]
+            for method, arguments in methods.items():
+                self.assertEqual(arguments_of(vars(made)[method]), ["self"] + arguments, method)
+        self.assertIs(isinstance(vars(Setting)["total_height"], property), True)
 
-class Language(unittest.TestCase):
-    def test_rules_1_and_14_the_folder_contains_python_files_only(self):
-        found = [path for path in FOLDER.rglob("*") if "__pycache__" not in path.parts]
-        self.assertEqual([path.name for path in found if path.suffix != ".py"], [])
-        self.assertIn("__init__.py", [path.name for path in found])
-
-    def test_rules_10_and_14_sizes_and_characters(self):
-        for path in FOLDER.rglob("*.py"):
-            data = path.read_bytes()
-            bad = [byte for byte in data if byte != 10 and not 32 <= byte <= 126]
-            self.assertEqual(bad, [], path.name)
-            lines = data.decode("ascii").split("\n")
-            self.assertLessEqual(len(lines) - 1, 399, path.name)
-            self.assertLessEqual(max(len(line) for line in lines), 120, path.name)
-
-    def test_rule_10_functions_are_short(self):
-        for path in FOLDER.rglob("*.py"):
-            for part in ast.walk(ast.parse(path.read_text())):
-                if isinstance(part, ast.FunctionDef):
-                    self.assertLessEqual(part.end_lineno - part.lineno + 1, 40, part.name)
+    def test_attributes_are_set_when_the_object_is_created(self):
+        self.assertLessEqual({"width", "height"}, set(vars(Page(1, 1))))
+        names = {"string", "size", "lead", "width", "align", "lines"}
+        self.assertLessEqual(names, set(vars(Setting("", width=1))))
 
 
 if __name__ == "__main__":
