@@ -3,6 +3,7 @@
 import ast
 import builtins
 import pathlib
+import re
 import unittest
 
 FOLDER = pathlib.Path(__file__).resolve().parent.parent / "quirekiln"
@@ -20,6 +21,11 @@ METHODS = set(
     " setdefault split splitlines startswith strip update upper values zfill add discard __init__".split()
 )
 BARRED = {"type", "register", "mro", "elements", "open", "input", "law", "eval", "exec", "vars", "dir", "globals"}
+# What no name may begin with, and what no name may be, also with digits behind it.
+BARRED_BEGINNINGS = (
+    "_wall", "_pe_", "_dcw_", "_enum_", "_cm_", "_twin_re_", "_lay_", "_law_", "_stub_", "_sre", "_WallAttr",
+)
+BARRED_WHOLE = re.compile("_(cold|tuplegetter|outside|record|written_out|member_names)[0-9_]*")
 STATEMENTS = (
     ast.FunctionDef, ast.ClassDef, ast.Return, ast.Delete, ast.Assign, ast.AugAssign, ast.For, ast.While, ast.If,
     ast.Raise, ast.Try, ast.ImportFrom, ast.Expr, ast.Pass, ast.Break, ast.Continue,
@@ -41,6 +47,16 @@ def bound_names(tree):
             yield part.id
         elif isinstance(part, ast.arg):
             yield part.arg
+
+
+def all_names(tree):
+    """All names that a file gives to anything."""
+    yield from bound_names(tree)
+    for part in ast.walk(tree):
+        if isinstance(part, (ast.FunctionDef, ast.ClassDef)):
+            yield part.name
+        elif isinstance(part, ast.Attribute) and isinstance(part.ctx, ast.Store):
+            yield part.attr
 
 
 def imports_of(tree):
@@ -107,6 +123,28 @@ class Imports(unittest.TestCase):
             self.assertNotIn(part.name, BARRED, file)
 
 
+class Names(unittest.TestCase):
+    def test_rule_12_plain_names(self):
+        for file, tree in TREES.items():
+            for name in all_names(tree):
+                if name.startswith("__"):
+                    self.assertIn(name, {"__init__", "__iter__"}, file)
+                    continue
+                self.assertIsNotNone(re.fullmatch("_|_?[a-zA-Z][a-zA-Z0-9_]*", name), (file, name))
+                self.assertIs(name.startswith(BARRED_BEGINNINGS), False, (file, name))
+                self.assertIsNone(BARRED_WHOLE.fullmatch(name), (file, name))
+
+    def test_rule_12_an_underscore_alone_is_never_read(self):
+        read = [place for place in parts(ast.Name) if place[1].id == "_" and isinstance(place[1].ctx, ast.Load)]
+        self.assertEqual(read, [])
+
+    def test_rule_26_no_attribute_has_the_name_of_a_builtin_method(self):
+        barred = {name for kind in (str, int, list, dict, set, bytes) for name in dir(kind)}
+        for file, part in parts(ast.Attribute):
+            if isinstance(part.ctx, ast.Store):
+                self.assertNotIn(part.attr, barred, file)
+
+
 class Code(unittest.TestCase):
     def test_rule_6_statements(self):
         for file, part in parts(ast.stmt):
@@ -134,6 +172,22 @@ class Code(unittest.TestCase):
         methods = {part.name for file, part in parts(ast.FunctionDef)}
         stored = {part.attr for file, part in parts(ast.Attribute) if isinstance(part.ctx, ast.Store)}
         self.assertEqual(methods & stored, set())
+
+    def test_rule_20_is(self):
+        for file, part in parts(ast.Compare):
+            for sign, right in zip(part.ops, part.comparators):
+                if isinstance(sign, (ast.Is, ast.IsNot)):
+                    self.assertIn(ast.unparse(right), ("None", "True", "False"), (file, part.lineno))
+
+    def test_rule_22_keywords_of_builtins(self):
+        allowed = {"key", "reverse", "default", "start", "strict"}
+        for file, part in parts(ast.Call):
+            if isinstance(part.func, ast.Name) and part.func.id in vars(builtins):
+                self.assertLessEqual({keyword.arg for keyword in part.keywords}, allowed, (file, part.lineno))
+
+    def test_rule_13_no_two_lambdas_on_one_line(self):
+        places = [(file, part.lineno) for file, part in parts(ast.Lambda)]
+        self.assertEqual(len(set(places)), len(places))
 
     def test_rule_5_decorators(self):
         for file, part in parts((ast.FunctionDef, ast.ClassDef)):

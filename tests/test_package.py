@@ -52,6 +52,27 @@ FUNCTIONS = {
         "ends_paragraph": ["string", "line"],
         "place_line": ["string", "line", "*size", "*width", "*align='left'"],
     },
+    "measures": {
+        "frame": ["style"],
+        "bounded": ["style", "width"],
+        "flow_children": ["page", "styles", "node"],
+        "narrow": ["page", "styles", "node"],
+        "wide": ["page", "styles", "node"],
+        "column_measures": ["page", "styles", "node"],
+    },
+    "rows": {
+        "grow_widths": ["free", "bases", "weights", "limits"],
+        "shrink_widths": ["missing", "bases", "weights", "limits"],
+    },
+    "grids": {
+        "column_widths": ["narrows", "wides", "room"],
+    },
+    "layout": {
+        "lay": ["page", "styles", "node", "width", "height"],
+        "needed": ["page", "styles"],
+        "rectangles": ["page", "styles"],
+        "scrolled": ["page", "styles", "node"],
+    },
 }
 CLASSES = {
     "errors": {

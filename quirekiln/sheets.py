@@ -1,0 +1,45 @@
+"""Sheets: which nodes are sheets, what lies on them, and what carries a node (points 75 and 113)."""
+
+from quirekiln.tree import NOBODY, ROOT
+
+
+def is_sheet(page, styles, node):
+    """Returns True if a shown node is a sheet, otherwise False."""
+    if page.kind(node) == "text":
+        return False
+    return node == ROOT or styles[node]["place"] != "flow"
+
+
+def sheets_below(page, styles, nodes):
+    """Returns a dict from each shown node to its nearest ancestor that is a sheet, 0 for the root.
+
+    For a free box this is the holder, too. The nodes are those that are shown, in document order.
+    """
+    found = {}
+    for node in nodes:
+        parent = page.parent(node)
+        if parent == NOBODY or is_sheet(page, styles, parent):
+            found[node] = parent
+        else:
+            found[node] = found[parent]
+    return found
+
+
+def lying_on(page, styles, nodes):
+    """Returns a dict from each shown node to the list of the sheets that lie on it."""
+    below = sheets_below(page, styles, nodes)
+    found = {node: [] for node in nodes}
+    for node in nodes:
+        if node != ROOT and is_sheet(page, styles, node):
+            found[below[node]].append(node)
+    return found
+
+
+def carriers(page, styles, nodes):
+    """Returns a dict from each shown node to the node that carries it, 0 for the root."""
+    below = sheets_below(page, styles, nodes)
+    found = {}
+    for node in nodes:
+        is_free = is_sheet(page, styles, node) and styles[node]["place"] == "free"
+        found[node] = below[node] if is_free else page.parent(node)
+    return found
