@@ -5,7 +5,8 @@ class History:
     """Cells by their keys. None as the value of a cell in a step says that there is no such cell.
 
     The values are never changed, only replaced: so a step keeps nothing but the cells that it
-    wrote, and the same values may stand in several places.
+    wrote, and the same values may stand in several places. Each step has a note, which is not
+    None, for the caller to know the step by when it is undone or redone.
     """
 
     def __init__(self, cells):
@@ -13,30 +14,30 @@ class History:
         self._done = []
         self._undone = []
 
-    def write(self, after):
+    def write(self, after, note):
         """Does a step that gives these cells these values."""
         before = {key: self.cells.get(key) for key in after}
-        self._done.append((before, after))
+        self._done.append((before, after, note))
         self._undone = []
         self._put(after)
 
     def undo(self):
-        """Reverts the last step; returns False if there is none, otherwise True."""
+        """Reverts the last step and returns its note; returns None if there is none."""
         if not self._done:
-            return False
-        step = self._done.pop()
-        self._undone.append(step)
-        self._put(step[0])
-        return True
+            return None
+        before, after, note = self._done.pop()
+        self._undone.append((before, after, note))
+        self._put(before)
+        return note
 
     def redo(self):
-        """Repeats the step that was reverted last; returns False if there is none."""
+        """Repeats the step that was reverted last and returns its note; returns None if there is none."""
         if not self._undone:
-            return False
-        step = self._undone.pop()
-        self._done.append(step)
-        self._put(step[1])
-        return True
+            return None
+        before, after, note = self._undone.pop()
+        self._done.append((before, after, note))
+        self._put(after)
+        return note
 
     def _put(self, changes):
         for key in changes:

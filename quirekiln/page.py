@@ -1,4 +1,8 @@
-"""The page: a window and a tree of boxes and texts that is edited in steps (points 20 to 27)."""
+"""The page: a window and a tree of boxes and texts that is edited in steps (points 20 to 27).
+
+Each step marks nodes (point 103): a node and all nodes below it, or none. With the moment at
+which each node was marked last, any number of engines can ask what is new to them.
+"""
 
 from quirekiln.checks import check_index, check_number, check_property, check_string, check_value
 from quirekiln.checks import check_word, read_marks, read_rules, sorted_pairs
@@ -28,6 +32,8 @@ class Page:
         self.width = width
         self.height = height
         self._last_id = ROOT
+        self._moment = 0
+        self._marked = {}
         self._history = History({WINDOW: (width, height), RULES: (), ROOT: root})
 
     def kind(self, node):
@@ -96,7 +102,8 @@ class Page:
         cells = self._history.cells
         changes = {gone: None for gone in branch(cells, node)}
         changes[row[PARENT]] = without_child(cells[row[PARENT]], node)
-        self._write(changes)
+        # Only what comes back when this is undone is marked: now the node is gone.
+        self._write(changes, node)
 
     def move(self, node, parent, index):
         """Moves a node with everything below it into a box; the index is counted without it."""
@@ -113,7 +120,7 @@ class Page:
         _check_depth(depth_of(cells, parent) + height_of(cells, node))
         changes[parent] = with_child(target, index, node)
         changes[node] = replaced(row, PARENT, parent)
-        self._write(changes)
+        self._write(changes, node)
 
     def set_text(self, node, string):
         """Gives a text another string."""
@@ -121,12 +128,12 @@ class Page:
         if row[KIND] != "text":
             raise WrongKind(node)
         check_string(string)
-        self._write({node: replaced(row, CONTENT, string)})
+        self._write({node: replaced(row, CONTENT, string)}, NOBODY)
 
     def set_marks(self, node, marks):
         """Gives a box other marks."""
         row = self._box(node)
-        self._write({node: replaced(row, MARKS, read_marks(marks))})
+        self._write({node: replaced(row, MARKS, read_marks(marks))}, node)
 
     def set_own(self, node, name, value):
         """Gives an own property of a box a value."""
@@ -134,7 +141,7 @@ class Page:
         check_value(name, value)
         own = dict(row[OWN])
         own[name] = value
-        self._write({node: replaced(row, OWN, sorted_pairs(own))})
+        self._write({node: replaced(row, OWN, sorted_pairs(own))}, node)
 
     def clear_own(self, node, name):
         """Takes an own property from a box, if it has it."""
@@ -142,36 +149,40 @@ class Page:
         check_property(name)
         own = dict(row[OWN])
         own.pop(name, None)
-        self._write({node: replaced(row, OWN, sorted_pairs(own))})
+        self._write({node: replaced(row, OWN, sorted_pairs(own))}, node)
 
     def set_rules(self, rules):
         """Gives the page other rules."""
-        self._write({RULES: read_rules(rules)})
+        self._write({RULES: read_rules(rules)}, ROOT)
 
     def scroll_to(self, node, x, y):
         """Gives a box another scroll position."""
         row = self._box(node)
         check_number("x", x, MOST_SCROLL)
         check_number("y", y, MOST_SCROLL)
-        self._write({node: replaced(row, SCROLL, (x, y))})
+        self._write({node: replaced(row, SCROLL, (x, y))}, NOBODY)
 
     def resize(self, width, height):
         """Gives the window another width and height."""
         check_number("width", width, MOST_WINDOW)
         check_number("height", height, MOST_WINDOW)
-        self._write({WINDOW: (width, height)})
+        self._write({WINDOW: (width, height)}, NOBODY)
 
     def undo(self):
         """Reverts the last step that is not undone; returns False if there is none."""
-        was_there = self._history.undo()
-        self._take_window()
-        return was_there
+        return self._follow(self._history.undo())
 
     def redo(self):
         """Repeats the step that was undone last; returns False if there is none."""
-        was_there = self._history.redo()
-        self._take_window()
-        return was_there
+        return self._follow(self._history.redo())
+
+    def moment(self):
+        """Returns the number of the steps that were ever done, undone and redone."""
+        return self._moment
+
+    def marked_since(self, moment):
+        """Returns the list of the nodes that were marked after a moment, in document order."""
+        return [node for node in self.nodes() if self._marked.get(node, 0) > moment]
 
     def snapshot(self):
         """Returns the value of the page: its width, height, rules, and a row for each node."""
@@ -210,16 +221,25 @@ class Page:
             raise TooMany(count)
         self._last_id += 1
         node = self._last_id
-        self._write({parent: with_child(holder, index, node), node: row})
+        self._write({parent: with_child(holder, index, node), node: row}, node)
         return node
 
-    def _write(self, changes):
-        """Does one step."""
-        self._history.write(changes)
-        self._take_window()
+    def _write(self, changes, marked):
+        """Does one step, which marks this node and all nodes below it."""
+        self._history.write(changes, marked)
+        self._follow(marked)
 
-    def _take_window(self):
-        self.width, self.height = self._history.cells[WINDOW]
+    def _follow(self, marked):
+        """Follows a step that was done, undone or redone; returns False if it is None, otherwise True."""
+        if marked is None:
+            return False
+        cells = self._history.cells
+        self.width, self.height = cells[WINDOW]
+        self._moment += 1
+        if marked in cells:
+            for node in branch(cells, marked):
+                self._marked[node] = self._moment
+        return True
 
 
 def _refuse_root(node):

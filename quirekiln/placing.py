@@ -10,17 +10,18 @@ class Placing:
     def __init__(self, layout):
         self.rects = {}
         self.amounts = {}
-        spots = {ROOT: (0, 0, root_task(layout.page, layout.styles))}
+        # Where each node stands, and its last task.
+        standing = {ROOT: (0, 0, root_task(layout.page, layout.styles))}
         # What carries a node comes before it in document order.
         for node in layout.order:
-            x, y, task = spots[node]
+            x, y, task = standing[node]
             found = layout.outcome(task)
             self.rects[node] = (x, y, task[1], _height(layout, node, found))
             self.amounts[node] = _amounts(layout, self.rects[node], task, found)
             right, down = self.amounts[node]
             for left, top, last in found.spots:
                 across, along = _moves(layout.styles[last[0]])
-                spots[last[0]] = (x + left - right + across, y + top - down + along, last)
+                standing[last[0]] = (x + left - right + across, y + top - down + along, last)
 
 
 def _height(layout, node, found):

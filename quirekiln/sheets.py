@@ -43,3 +43,28 @@ def carriers(page, styles, nodes):
         is_free = is_sheet(page, styles, node) and styles[node]["place"] == "free"
         found[node] = below[node] if is_free else page.parent(node)
     return found
+
+
+def paint_order(page, styles, nodes):
+    """Returns the list of the shown nodes, from the one that is painted first to the last one."""
+    below = sheets_below(page, styles, nodes)
+    flat = {node: [] for node in nodes}
+    for node in nodes:
+        if not is_sheet(page, styles, node):
+            flat[below[node]].append(node)
+    return _sheet_order(ROOT, styles, flat, lying_on(page, styles, nodes))
+
+
+def _sheet_order(sheet, styles, flat, lying):
+    """Returns the nodes of a sheet and of all sheets on it, in the order of painting."""
+    # The document order remains where the levels are equal.
+    stack = sorted(lying[sheet], key=lambda node: styles[node]["level"])
+    order = [sheet]
+    for node in stack:
+        if styles[node]["level"] < 0:
+            order.extend(_sheet_order(node, styles, flat, lying))
+    order.extend(flat[sheet])
+    for node in stack:
+        if styles[node]["level"] >= 0:
+            order.extend(_sheet_order(node, styles, flat, lying))
+    return order

@@ -4,6 +4,7 @@ import importlib
 import inspect
 import unittest
 
+from quirekiln.engine import Engine
 from quirekiln.page import Page
 from quirekiln.setting import Setting
 
@@ -73,6 +74,18 @@ FUNCTIONS = {
         "rectangles": ["page", "styles"],
         "scrolled": ["page", "styles", "node"],
     },
+    "painting": {
+        "painted_items": ["page", "styles", "rectangles"],
+        "changed_items": ["old", "new"],
+    },
+    "pixels": {
+        "color_at": ["painted", "x", "y"],
+        "paint": ["painted", "rectangle"],
+    },
+    "pointing": {
+        "hit_at": ["painted", "x", "y"],
+        "hits_at": ["painted", "x", "y"],
+    },
 }
 CLASSES = {
     "errors": {
@@ -81,6 +94,7 @@ CLASSES = {
     },
     "page": {"Page"},
     "setting": {"Setting"},
+    "engine": {"Engine", "Report"},
 }
 METHODS = {
     ("page", "Page"): {
@@ -109,6 +123,12 @@ METHODS = {
         "line_of": ["index"],
         "caret": ["index"],
         "index_near": ["x", "y"],
+    },
+    ("engine", "Engine"): {
+        "__init__": ["page"],
+        "refresh": [], "rectangles": [], "painted": [], "pixel": ["x", "y"], "shot": ["rectangle"],
+        "hit": ["x", "y"], "hits": ["x", "y"], "caret": ["node", "index"], "index_at": ["node", "x", "y"],
+        "selection": ["first", "last"], "selected_text": ["first", "last"],
     },
 }
 
@@ -153,6 +173,7 @@ class Interface(unittest.TestCase):
         self.assertLessEqual({"width", "height"}, set(vars(Page(1, 1))))
         names = {"string", "size", "lead", "width", "align", "lines"}
         self.assertLessEqual(names, set(vars(Setting("", width=1))))
+        self.assertLessEqual({"laid", "styled", "damage"}, set(vars(Engine(Page(1, 1)).refresh())))
 
 
 if __name__ == "__main__":

@@ -135,6 +135,19 @@ class Scrolling(unittest.TestCase):
         page = styled_page(100, 50, box(*inside, clip="scroll", display="row", width=30, height=40, gap=5))
         self.check(page, 2, ((10000, 10000), (48 - 30, 60 - 40)))
 
+    def test_point_88_the_frame_of_rows_and_grids_is_not_part_of_the_content(self):
+        for display in ("row", "grid"):
+            inside = [box(width=20, shrink=0, height=60), box(width=20, shrink=0)]
+            style = {"clip": "scroll", "width": 30, "height": 40, "gap": 5, "padding": 2, "border": 3}
+            page = styled_page(100, 50, box(*inside, **style, display=display))
+            self.check(page, 2, ((10000, 10000), (45 + 4 - 24, 60 + 4 - 34)))
+
+    def test_point_88_the_content_is_empty_without_flow_children(self):
+        for display in ("block", "row", "grid"):
+            style = {"clip": "scroll", "width": 0, "height": 0, "gap": 5, "border": 3, "padding": 1, "display": display}
+            page = styled_page(100, 50, box(box(place="free", width=90, height=90), **style))
+            self.check(page, 2, ((10000, 10000), (0, 0)))
+
     def test_point_88_grids(self):
         inside = [box(width=20, height=9), box(width=20, height=30), box(width=20, height=8)]
         style = {"clip": "scroll", "display": "grid", "width": 30, "height": 20, "gap": 5, "columns": 2}

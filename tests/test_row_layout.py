@@ -40,6 +40,10 @@ class Bases(unittest.TestCase):
         self.assertEqual(self.widths({}, box(width=30), box(width=20)), [30, 20])
         self.assertEqual(self.widths({}, "ab", box(grow=1)), [4, 96])
 
+    def test_point_80_one_unit_that_is_free_or_missing(self):
+        self.assertEqual(self.widths({}, box(width=30, grow=1), box(width=69)), [31, 69])
+        self.assertEqual(self.widths({}, box(width=30), box(width=71)), [29, 71])
+
     def test_point_80_margins_and_gaps_take_from_what_is_free(self):
         sketch = [box(width=20, grow=1, margin_left=3), box(width=20, margin_right=4), box(width=20)]
         self.assertEqual(self.widths({"gap": 5, "padding": 2}, *sketch), [20 + 36 - 17, 20, 20])
