@@ -21,6 +21,7 @@ def rectangles(page, styles):
     """Returns a dict from the id of each shown node to its rectangle."""
     return Placing(_whole_layout(page, styles)).rects
 
+
 def scrolled(page, styles, node):
     """Returns the pair of the amounts by which a shown node is scrolled."""
     return Placing(_whole_layout(page, styles)).amounts[node]

@@ -8,8 +8,10 @@ from quirekiln.sheets import paint_order
 
 def painted_items(page, styles, rectangles):
     """Returns the list of the painted items, from the lowest to the topmost one."""
-    texts = set_texts(page, styles, rectangles, {})
-    return paint_nodes(page, styles, rectangles, texts, clips(page, styles, rectangles))
+    # The caller's dict may have any order.
+    rects = {node: rectangles[node] for node in page.nodes() if node in rectangles}
+    texts = set_texts(page, styles, rects, {})
+    return paint_nodes(page, styles, rects, texts, clips(page, styles, rects))
 
 
 def changed_items(old, new):
@@ -25,7 +27,10 @@ def changed_items(old, new):
 
 
 def paint_nodes(page, styles, rects, texts, cut_to):
-    """Returns the painted items of a page with these texts of `set_texts` and clips of `clips`."""
+    """Returns the painted items of a page with these texts of `set_texts` and clips of `clips`.
+
+    The rectangles are in document order.
+    """
     found = []
     for node in paint_order(page, styles, list(rects)):
         if node in texts:

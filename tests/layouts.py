@@ -76,6 +76,23 @@ def fill(page, parent, sketch):
             fill(page, node, part[1])
 
 
+def tall_rows(depth):
+    """Rows within rows, each beside a box that is higher than all further in."""
+    page = Page(1000, 1000)
+    row = 1
+    for number in range(depth):
+        row = page.insert_box(row, 0, "a")
+        page.set_own(row, "display", "row")
+        for place in ("flow", "free"):
+            box = page.insert_box(row, 0, "b")
+            page.set_own(box, "width", ("part", 20))
+            page.set_own(box, "place", place)
+            page.set_own(box, "height", 2 * (depth - number))
+            page.set_own(page.insert_box(box, 0, "c"), "display", "row")
+    page.insert_text(row, 0, "ab cd")
+    return page
+
+
 class Model:
     """The layout of a page, each number as its point says it."""
 

@@ -9,7 +9,7 @@ from quirekiln.layout import needed, rectangles
 from quirekiln.page import Page
 from quirekiln.painting import painted_items
 from quirekiln.styles import computed
-from layouts import styled_page
+from layouts import styled_page, tall_rows
 
 
 def box(*sketch, **style):
@@ -384,6 +384,21 @@ class LargePages(unittest.TestCase):
         self.assertEqual(len(engine.selected_text((300, 0), (2, 0)).split("\n")), 299)
         self.assertGreater(len(engine.selection((300, 0), (2, 0))), 50000)
         self.assertLess(time.process_time() - start, 30)
+
+    def test_rows_deep_in_rows(self):
+        page = tall_rows(27)
+        start = time.process_time()
+        engine = refreshed(page)
+        deepest = [node for node in page.nodes() if page.kind(node) == "text"][0]
+        before = needed(page, computed(page))
+        page.set_text(deepest, "ab ef")
+        path = [deepest]
+        while path[-1] != 1:
+            path.append(page.parent(path[-1]))
+        self.assertEqual(engine.refresh().laid, [task for task in before if task[0] in path])
+        self.assertEqual(engine.rectangles(), rectangles(page, computed(page)))
+        self.assertEqual(engine.refresh().laid, [])
+        self.assertLess(time.process_time() - start, 10)
 
     def test_boxes_over_the_whole_window(self):
         page = Page(1000, 1000)

@@ -7,7 +7,7 @@ from collections import Counter
 from quirekiln.layout import lay, needed, rectangles
 from quirekiln.page import Page
 from quirekiln.styles import computed
-from layouts import styled_page
+from layouts import styled_page, tall_rows
 
 
 def tasks(page):
@@ -61,23 +61,6 @@ class Order(unittest.TestCase):
             (5, 1, "auto"), (4, 1, "auto"), (3, 1, "auto"), (6, 1, "auto"),
             (5, 1, 9), (4, 1, 9), (3, 1, 9), (2, 100, "auto"), (1, 100, "auto"),
         ])
-
-
-def tall_rows(depth):
-    """Rows within rows, each beside a box that is higher than all further in."""
-    page = Page(1000, 1000)
-    row = 1
-    for number in range(depth):
-        row = page.insert_box(row, 0, "a")
-        page.set_own(row, "display", "row")
-        for place in ("flow", "free"):
-            box = page.insert_box(row, 0, "b")
-            page.set_own(box, "width", ("part", 20))
-            page.set_own(box, "place", place)
-            page.set_own(box, "height", 2 * (depth - number))
-            page.set_own(page.insert_box(box, 0, "c"), "display", "row")
-    page.insert_text(row, 0, "ab cd")
-    return page
 
 
 class Numbers(unittest.TestCase):

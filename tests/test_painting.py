@@ -94,6 +94,14 @@ class Items(unittest.TestCase):
         page = styled_page(30, 40, box("a", box("b", background=3), display="none", background=4), "c")
         self.assertEqual(order(page), [6])
 
+    def test_the_order_of_the_dict_of_rectangles_counts_for_nothing(self):
+        page = styled_page(20, 10, box("a", box("b"), background=7), box("c", place="free", clip="cut"), "d")
+        page.move(2, 1, 2)
+        styles = computed(page)
+        rects = rectangles(page, styles)
+        for nodes in [sorted(rects), sorted(rects, reverse=True)]:
+            self.assertEqual(painted_items(page, styles, {node: rects[node] for node in nodes}), items(page))
+
     def test_point_3_new_lists_and_nothing_is_changed(self):
         page = styled_page(20, 10, box("a", background=7))
         styles = computed(page)
