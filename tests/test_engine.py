@@ -1,5 +1,6 @@
 """Points 2 and 100 to 104: engines, what a refresh lays out, and its damage."""
 
+import copy
 import time
 import unittest
 
@@ -323,17 +324,17 @@ class Several(unittest.TestCase):
 
     def test_point_100_a_duplicate_and_the_page(self):
         page = styled_page(20, 10, "a", box(background=3, height=5))
-        copy = page.duplicate()
-        first, second = refreshed(page), refreshed(copy)
+        other = page.duplicate()
+        first, second = refreshed(page), refreshed(other)
         page.set_own(3, "background", 4)
         report = second.refresh()
         self.assertEqual((report.styled, report.laid, report.damage, second.pixel(0, 3)), ([], [], [], 3))
-        copy.set_own(3, "height", 1)
+        other.set_own(3, "height", 1)
         self.assertEqual(first.refresh().styled, [3])
         self.assertEqual(first.rectangles()[3], (0, 2, 20, 5))
-        self.assertEqual(Engine(copy).refresh().styled, [1, 2, 3])
-        self.assertIs(copy.undo(), True)
-        self.assertIs(copy.undo(), False)
+        self.assertEqual(Engine(other).refresh().styled, [1, 2, 3])
+        self.assertIs(other.undo(), True)
+        self.assertIs(other.undo(), False)
         self.assertEqual(second.refresh().styled, [3])
 
     def test_point_100_what_is_returned_belongs_to_the_caller(self):
@@ -345,13 +346,12 @@ class Several(unittest.TestCase):
         report.damage.clear()
         report.laid = None
         self.assertEqual(engine.refresh().laid, [])
-        rects, painted, shot = engine.rectangles(), engine.painted(), engine.shot((0, 0, 20, 10))
+        before = copy.deepcopy((engine.rectangles(), engine.painted(), engine.shot((0, 0, 20, 10))))
         engine.rectangles().clear()
         engine.painted().clear()
         engine.shot((0, 0, 20, 10))[3][0] = 77
         engine.shot((0, 0, 20, 10)).clear()
-        told = (engine.rectangles(), engine.painted(), engine.shot((0, 0, 20, 10)))
-        self.assertEqual(told, (rects, painted, shot))
+        self.assertEqual((engine.rectangles(), engine.painted(), engine.shot((0, 0, 20, 10))), before)
         page.set_own(3, "background", 4)
         self.assertEqual(engine.refresh().damage, [(0, 2, 20, 5)])
 

@@ -71,6 +71,10 @@ class Sizes(unittest.TestCase):
         self.assertEqual(held({"border": 3, "padding": 50}, free("ab cd ef"), width=16)[0][3], 10)
         self.assertEqual(held({"border": 3}, free("ab cd ef"), width=2)[0][3], 4)
 
+    def test_point_86_the_room_is_at_least_0(self):
+        self.assertEqual(held({"border": 3}, free("ab cd ef", left=-10), width=2)[0][3], 10)
+        self.assertEqual(held({"border": 3}, free("ab cd ef", left=-10), width=8)[0][3], 12)
+
     def test_point_86_numbers_and_parts(self):
         def width(value, **more):
             return held({"border": 2, "padding": 7}, free(width=value, left=30, **more), width=105)[0][3]
